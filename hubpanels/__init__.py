@@ -1,0 +1,1 @@
+"""Panels of a tabulating room's machines; hubpanels.panels holds the calls."""
