@@ -1,11 +1,20 @@
-"""Panels: texts of wires between hubs, judged before they are believed."""
+"""Panels: texts of wires between hubs, judged before they are believed, and what goes into their hubs."""
 
 LONGEST_TEXT = 16384
 MOST_WIRES = 256
 LINE_END = 10
 
+LAST_COLUMN = 79
+LAST_HUB = 255
+
+NOTHING = 0
+ALL_ROWS = 4095
+UPPER_ROWS = 3
+LOWER_ROWS = 4092
+
 TOO_LONG = -1
 FAULTY = -6
+NOT_TOLD = -8
 
 NO_LINE = 1
 LINE_TOO_MANY = 2
@@ -201,8 +210,126 @@ def find_refusal(text):
     return []
 
 
+# A card and what the machine sends are told alike: numbers of columns or hubs, rising, each with its holes.
+def is_told(row, last_number):
+    if len(row) % 2 == 1:
+        return False
+    before = -1
+    for place in range(0, len(row), 2):
+        if not before < row[place] <= last_number:
+            return False
+        if not NOTHING < row[place + 1] <= ALL_ROWS:
+            return False
+        before = row[place]
+    return True
+
+
+def find_refusal_with_lists(text, card, sending):
+    refusal = find_refusal(text)
+    if refusal:
+        return refusal
+    if is_told(card, LAST_COLUMN) and is_told(sending, LAST_HUB):
+        return []
+    return [NOT_TOLD]
+
+
+def hole_of_figure(figure):
+    return 1 << (figure + 2)
+
+
+def holes_of_number(number):
+    zone = number // 16
+    value = number % 16
+    holes = NOTHING
+    if zone > 0:
+        holes = 1 << (zone - 1)
+    if value > 9:
+        return holes | hole_of_figure(8) | hole_of_figure(value - 8)
+    if value > 0:
+        return holes | hole_of_figure(value)
+    return holes
+
+
+def holes_by_hub(word, row):
+    holes = {}
+    for place in range(0, len(row), 2):
+        holes[(word, row[place])] = row[place + 1]
+    return holes
+
+
+# `outside` has the holes of the hubs that send what no box makes, `inside` those of the hubs that take.
+def holes_sent(hub, outside, inside):
+    word = hub[0]
+    number = hub[1]
+    if word == "send":
+        return holes_of_number(number)
+    if word == "upper":
+        return inside.get(("split", number), NOTHING) & UPPER_ROWS
+    if word == "lower":
+        return inside.get(("split", number), NOTHING) & LOWER_ROWS
+    if word == "hole":
+        return inside.get(("look", number), NOTHING) & (1 << hub[2])
+    if word == "chosen":
+        turned = inside.get(("by", number), NOTHING) != NOTHING
+        return inside.get(("other" if turned else "plain", number), NOTHING)
+    if word == "both":
+        return inside.get(("one", number), NOTHING) | inside.get(("two", number), NOTHING)
+    return outside.get(hub, NOTHING)
+
+
+def hubs_behind(sender):
+    box = box_of(sender)
+    if box is None:
+        return []
+    return [(kind[0], box[1]) for kind in TAKERS if BOX_KINDS.get(kind[0]) == box[0]]
+
+
+def senders_by_taker(wires):
+    senders = {}
+    for wire in wires:
+        senders[wire[1]] = wire[0]
+    return senders
+
+
+# A hub waits until all that its sender's box takes by are filled. There is no round, so none waits for itself.
+def fill_hubs(wires, outside):
+    senders = senders_by_taker(wires)
+    inside = {}
+    for wire in wires:
+        waiting = [wire[1]]
+        while waiting:
+            sender = senders[waiting[-1]]
+            awaited = [hub for hub in hubs_behind(sender) if hub in senders and hub not in inside]
+            if awaited:
+                waiting.extend(awaited)
+            else:
+                taker = waiting.pop()
+                inside[taker] = holes_sent(sender, outside, inside)
+    return inside
+
+
+# To be asked only of what is not refused.
+def find_state(text, card, sending):
+    outside = holes_by_hub("read", card)
+    outside.update(holes_by_hub("from", sending))
+    return fill_hubs(read_wires(part_lines(text)), outside)
+
+
 def judge(text):
     refusal = find_refusal(text)
     if refusal:
         return refusal
     return [len(part_lines(text))]
+
+
+def run(text, card, sending):
+    refusal = find_refusal_with_lists(text, card, sending)
+    if refusal:
+        return refusal
+    inside = find_state(text, card, sending)
+    answer = [0]
+    for number in range(LAST_HUB + 1):
+        holes = inside.get(("to", number), NOTHING)
+        if holes != NOTHING:
+            answer.extend([number, holes])
+    return answer

@@ -1,7 +1,9 @@
 """What the tests share: texts as lists of bytes, and a slow second reading of the document.
 
 The second reading writes out every hub there is and looks lines up among them, and seeks
-rounds by striking out boxes; so it has nothing in common with how the program reads.
+rounds by striking out boxes; so it has nothing in common with how the program reads. What
+goes into the hubs it tells as sets of rows, and goes through all wires again and again
+until nothing is new.
 """
 
 import re
@@ -101,9 +103,126 @@ def expected(text):
         if not whole:
             return [-6, 1, place, right]
     wires = [tuple(line.decode().strip("\n").split(" > ")) for line in lines]
+    # Where all wires together make no round, none of their beginnings does.
+    rounds = has_round(wires)
     for place, (sender, taker) in enumerate(wires):
         if taker in [wire[1] for wire in wires[:place]]:
             return [-6, 3, place, 0]
-        if has_round(wires[:place + 1]):
+        if rounds and has_round(wires[:place + 1]):
             return [-6, 4, place, 0]
     return [len(wires)]
+
+
+# The code, written out: the rows of z, and those of v.
+ZONE_ROWS = ((), (0,), (1,), (2,))
+VALUE_ROWS = (
+    (), (3,), (4,), (5,), (6,), (7,), (8,), (9,), (10,), (11,),
+    (10, 4), (10, 5), (10, 6), (10, 7), (10, 8), (10, 9),
+)
+CODE = [frozenset(zone + value) for zone in ZONE_ROWS for value in VALUE_ROWS]
+
+
+def rows_of(holes):
+    return frozenset(row for row in range(12) if holes // 2 ** row % 2 == 1)
+
+
+def holes_of(rows):
+    return sum(2 ** row for row in rows)
+
+
+def told(row):
+    return dict(zip(row[::2], row[1::2]))
+
+
+def is_told(row, places):
+    numbers = row[::2]
+    return (
+        len(row) % 2 == 0
+        and all(number in range(places) for number in numbers)
+        and all(holes in range(1, 4096) for holes in row[1::2])
+        and numbers == sorted(set(numbers))
+    )
+
+
+def rows_sent(hub, card, sending, inside):
+    word, k = hub.split(" ")[:2]
+
+    def into(takes):
+        return inside.get(f"{takes} {k}", frozenset())
+
+    return {
+        "read": lambda: rows_of(told(card).get(int(k), 0)),
+        "from": lambda: rows_of(told(sending).get(int(k), 0)),
+        "send": lambda: CODE[int(k)],
+        "upper": lambda: into("split") & {0, 1},
+        "lower": lambda: into("split") - {0, 1},
+        "hole": lambda: into("look") & {int(hub.split(" ")[2])},
+        "chosen": lambda: into("other") if into("by") else into("plain"),
+        "both": lambda: into("one") | into("two"),
+    }[word]()
+
+
+def wires_of(text):
+    return [tuple(line.split(" > ")) for line in bytes(text).decode().splitlines()]
+
+
+def expected_inside(text, card, sending):
+    """The rows that go into each hub to which a wire leads, of a panel that is taken."""
+    wires = wires_of(text)
+    inside = {}
+    while True:
+        after = {taker: rows_sent(sender, card, sending, inside) for sender, taker in wires}
+        if after == inside:
+            return inside
+        inside = after
+
+
+def expected_run(text, card, sending):
+    """What the document asks run to answer."""
+    judged = expected(text)
+    if judged[0] < 0:
+        return judged
+    if not is_told(card, 80) or not is_told(sending, 256):
+        return [-8]
+    inside = expected_inside(text, card, sending)
+    answer = [0]
+    for number in range(256):
+        if inside.get(f"to {number}"):
+            answer += [number, holes_of(inside[f"to {number}"])]
+    return answer
+
+
+def some_outside(chance):
+    word = chance.choice(("read", "read", "from", "send"))
+    return f"{word} {chance.randint(0, LAST_NUMBERS[word][0])}"
+
+
+def some_panel(chance, numbers):
+    """The lines of a sound panel, in any order: some boxes, each of which gets from those made before it."""
+    boxes = [(box, k) for box in range(len(BOXES)) for k in chance.sample(range(64), numbers)]
+    chance.shuffle(boxes)
+    senders = []
+    wires = []
+
+    def some_sender():
+        if not senders or chance.random() < 0.4:
+            return some_outside(chance)
+        return chance.choice(senders[-12:])
+
+    for box, k in boxes:
+        sends, takes = BOXES[box]
+        wires += [f"{some_sender()} > {word} {k}" for word in takes if chance.random() < 0.9]
+        senders += [f"{word} {k}" for word in sends if word != "hole"]
+        senders += [f"hole {k} {chance.randrange(12)}" for word in sends if word == "hole"]
+    ends = chance.sample(range(256), min(256 - len(wires), len(senders) + 4))
+    wires += [f"{some_sender()} > to {n}" for n in ends]
+    chance.shuffle(wires)
+    return wires
+
+
+def some_told(chance, places):
+    """A row as a card, or what the machine sends, is told."""
+    row = []
+    for number in sorted(chance.sample(range(places), chance.randint(0, places))):
+        row += [number, chance.choice((1, 2, 3, 4, 4092, 4095, 2048, chance.randint(1, 4095)))]
+    return row

@@ -10,23 +10,48 @@ import unittest
 from unittest import mock
 
 from hubpanels import panels
-from hubpanels.panels import judge
+from hubpanels.panels import judge, run
 from tests.helper import as_text, panel
 
-TEXTS = (
-    [],
-    panel("read 0 > to 0", "both 0 > one 1"),
-    panel("read 0 > to 0", "read 0 > to 0"),
-    panel("both 1 > one 0", "both 0 > one 1"),
-    as_text("read 0 > to 0"),
-    panel(*[f"read 0 > to {n}" for n in range(256)]),
-    panel(*[f"read 0 > to {n}" for n in range(256)], ""),
-    [255] * 16385,
-    [10] * 65536,
+FULL_TEXT = panel(*[f"read 0 > to {n}" for n in range(256)])
+BOXES_TEXT = panel(
+    "both 0 > to 9", "chosen 3 > one 0", "read 4 > by 3", "from 7 > other 3", "send 1 > plain 3", "from 8 > two 0",
 )
-ANSWERS = (
-    [0], [2], [-6, 3, 1, 0], [-6, 4, 1, 0], [-6, 1, 0, 13], [256], [-6, 2, 256, 0], [-1], [-1],
+CARD = [0, 1, 4, 2]
+SENDING = [7, 3, 8, 4, 255, 4095]
+LONG_ROW = [10 ** 18, -10 ** 18] * 8000
+
+# What is called, what is handed in, what is answered.
+CALLS = (
+    (judge, ([],), [0]),
+    (judge, (panel("read 0 > to 0", "both 0 > one 1"),), [2]),
+    (judge, (panel("read 0 > to 0", "read 0 > to 0"),), [-6, 3, 1, 0]),
+    (judge, (panel("both 1 > one 0", "both 0 > one 1"),), [-6, 4, 1, 0]),
+    (judge, (as_text("read 0 > to 0"),), [-6, 1, 0, 13]),
+    (judge, (FULL_TEXT,), [256]),
+    (judge, (FULL_TEXT + [10],), [-6, 2, 256, 0]),
+    (judge, ([255] * 16385,), [-1]),
+    (judge, ([10] * 65536,), [-1]),
+    (run, ([], [], []), [0]),
+    (run, (BOXES_TEXT, CARD, SENDING), [0, 9, 7]),
+    (run, (BOXES_TEXT, CARD[:2], SENDING), [0, 9, 12]),
+    (run, (BOXES_TEXT, [], []), [0, 9, 8]),
+    (run, (BOXES_TEXT, CARD[:3], SENDING), [-8]),
+    (run, (BOXES_TEXT, CARD, SENDING[::-1]), [-8]),
+    (run, (BOXES_TEXT, LONG_ROW, LONG_ROW), [-8]),
+    (run, (BOXES_TEXT[:-1], CARD, SENDING), [-6, 1, 5, 14]),
+    (run, ([10] * 65536, LONG_ROW, LONG_ROW), [-1]),
+    (run, (FULL_TEXT, CARD, SENDING), [0] + [number for n in range(256) for number in (n, 1)]),
 )
+ARGUMENTS = (
+    (judge, ["text"]),
+    (run, ["text", "card", "sending"]),
+)
+
+
+def handed_in(given, as_list):
+    """What is handed in, its lists made anew."""
+    return tuple(as_list(value) if isinstance(value, list) else value for value in given)
 
 
 def refuse(*given):
@@ -41,31 +66,51 @@ class Unchangeable(list):
 
 
 class Calls(unittest.TestCase):
-    def test_its_one_argument_is_called_text(self):
-        self.assertEqual(list(inspect.signature(judge).parameters), ["text"])
-        self.assertEqual(judge(text=panel("read 0 > to 0")), [1])
+    def test_the_arguments_and_their_names(self):
+        for call, names in ARGUMENTS:
+            self.assertEqual(list(inspect.signature(call).parameters), names)
+        for call, given, answer in CALLS:
+            self.assertEqual(call(**dict(zip(dict(ARGUMENTS)[call], given))), answer)
 
     def test_what_is_handed_in_stays_as_it_was(self):
-        for text, answer in zip(TEXTS, ANSWERS):
-            handed = list(text)
-            self.assertEqual(judge(handed), answer)
-            self.assertEqual(handed, text)
+        for call, given, answer in CALLS:
+            handed = handed_in(given, list)
+            self.assertEqual(call(*handed), answer)
+            self.assertEqual(handed, given)
 
     def test_what_is_handed_in_is_not_changed_for_a_while(self):
-        for text, answer in zip(TEXTS, ANSWERS):
-            self.assertEqual(judge(Unchangeable(text)), answer)
+        for call, given, answer in CALLS:
+            self.assertEqual(call(*handed_in(given, Unchangeable)), answer)
 
     def test_a_second_call_answers_as_the_first(self):
-        for first in range(len(TEXTS)):
-            for second in range(len(TEXTS)):
-                self.assertEqual(judge(TEXTS[first]), ANSWERS[first])
-                self.assertEqual(judge(TEXTS[second]), ANSWERS[second])
+        for call, given, answer in CALLS:
+            self.assertEqual(call(*given), answer)
+            for later, its, told in CALLS:
+                self.assertEqual(later(*its), told)
+            self.assertEqual(call(*given), answer)
 
     def test_an_answer_that_is_changed_changes_no_later_one(self):
-        for text, answer in zip(TEXTS, ANSWERS):
-            judge(text).append(7)
-            judge(text).clear()
-            self.assertEqual(judge(text), answer)
+        for call, given, answer in CALLS:
+            call(*given).append(7)
+            call(*given).clear()
+            self.assertEqual(call(*given), answer)
+
+    def test_one_list_may_be_handed_in_twice(self):
+        row = [0, 1, 5, 2]
+        text = panel("read 5 > to 0", "from 0 > to 1")
+        self.assertEqual(run(text, row, row), [0, 0, 2, 1, 1])
+        self.assertEqual(row, [0, 1, 5, 2])
+
+    def test_an_answer_is_none_of_the_lists_handed_in(self):
+        for call, given, answer in CALLS:
+            told = call(*given)
+            self.assertFalse(any(told is value for value in given))
+
+    def test_answers_are_lists_of_whole_numbers(self):
+        for call, given, answer in CALLS:
+            told = call(*given)
+            self.assertIs(type(told), list)
+            self.assertTrue(all(type(number) is int for number in told))
 
     def test_the_module_keeps_nothing(self):
         def values():
@@ -73,8 +118,8 @@ class Calls(unittest.TestCase):
                     if isinstance(value, (int, str, tuple, list, dict)) and not name.startswith("__")}
 
         before = copy.deepcopy(values())
-        for text in TEXTS:
-            judge(text)
+        for call, given, answer in CALLS:
+            call(*given)
         self.assertEqual(values(), before)
 
     def test_nothing_is_printed_read_or_imported(self):
@@ -85,24 +130,42 @@ class Calls(unittest.TestCase):
                 mock.patch.object(builtins, "open", side_effect=AssertionError("a file is read")), \
                 mock.patch.object(builtins, "input", side_effect=AssertionError("input is read")), \
                 mock.patch.object(builtins, "__import__", side_effect=AssertionError("something is imported")):
-            answers = tuple(judge(text) for text in TEXTS)
-        self.assertEqual(answers, ANSWERS)
+            answers = [call(*given) for call, given, answer in CALLS]
+        self.assertEqual(answers, [answer for call, given, answer in CALLS])
         self.assertEqual(printed.getvalue() + complained.getvalue(), "")
         self.assertEqual(dict(sys.modules), loaded)
 
-    def test_few_calls_within_one_another(self):
-        ladder = [f"both {n} > one {n + 1}" for n in range(63)] + [f"chosen {n} > by {n + 1}" for n in range(63)]
-        ladder += [f"upper {n} > split {n + 1}" for n in range(63)] + [f"hole {n} 0 > look {n + 1}" for n in range(63)]
-        ladder += ["both 63 > by 0", "chosen 63 > split 0", "lower 63 > look 0"]
-        ladder.reverse()
+
+class Depth(unittest.TestCase):
+    ladder = [f"both {n} > one {n + 1}" for n in range(63)] + [f"chosen {n} > plain {n + 1}" for n in range(63)]
+    ladder += [f"upper {n} > split {n + 1}" for n in range(63)] + [f"hole {n} 0 > look {n + 1}" for n in range(63)]
+    ladder += ["both 63 > plain 0", "chosen 63 > split 0", "upper 63 > look 0"]
+    ladder.reverse()
+
+    def with_few_calls(self, *calls):
         old = sys.getrecursionlimit()
-        depth = len(inspect.stack(0))
-        sys.setrecursionlimit(depth + 40)
+        sys.setrecursionlimit(len(inspect.stack(0)) + 40)
         try:
-            answers = [judge(panel(*ladder)), judge(panel(*ladder, "hole 63 0 > two 0")), judge([97] * 16384)]
+            return [call() for call in calls]
         finally:
             sys.setrecursionlimit(old)
+
+    def test_judge(self):
+        answers = self.with_few_calls(
+            lambda: judge(panel(*self.ladder)),
+            lambda: judge(panel(*self.ladder, "hole 63 0 > two 0")),
+            lambda: judge([97] * 16384),
+        )
         self.assertEqual(answers, [[255], [-6, 4, 255, 0], [-6, 1, 0, 0]])
+
+    def test_run(self):
+        text = panel("hole 62 0 > to 0", *[wire for wire in self.ladder if "look 63" not in wire], "read 0 > one 0")
+        answers = self.with_few_calls(
+            lambda: judge(text),
+            lambda: run(text, [0, 4095], []),
+            lambda: run(text, LONG_ROW, LONG_ROW),
+        )
+        self.assertEqual(answers, [[256], [0, 0, 1], [-8]])
 
 
 if __name__ == "__main__":
