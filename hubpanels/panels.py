@@ -13,6 +13,7 @@ UPPER_ROWS = 3
 LOWER_ROWS = 4092
 
 TOO_LONG = -1
+NO_SUCH_HUB = -4
 FAULTY = -6
 NOT_TOLD = -8
 
@@ -22,6 +23,7 @@ SECOND_WIRE = 3
 ROUND = 4
 
 # A kind of hub: its word and, for each number behind it, the greatest there is.
+# The takers stand in the order in which a call counts them.
 SENDERS = (
     ("read", (79,)),
     ("send", (63,)),
@@ -333,3 +335,15 @@ def run(text, card, sending):
         if holes != NOTHING:
             answer.extend([number, holes])
     return answer
+
+
+def state(into, k, text, card, sending):
+    refusal = find_refusal_with_lists(text, card, sending)
+    if refusal:
+        return refusal
+    if not 0 <= into < len(TAKERS):
+        return [NO_SUCH_HUB]
+    kind = TAKERS[into]
+    if not 0 <= k <= kind[1][0]:
+        return [NO_SUCH_HUB]
+    return [find_state(text, card, sending).get((kind[0], k), NOTHING)]

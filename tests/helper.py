@@ -6,6 +6,7 @@ goes into the hubs it tells as sets of rows, and goes through all wires again an
 until nothing is new.
 """
 
+import random
 import re
 
 LAST_NUMBERS = {
@@ -226,3 +227,74 @@ def some_told(chance, places):
     for number in sorted(chance.sample(range(places), chance.randint(0, places))):
         row += [number, chance.choice((1, 2, 3, 4, 4092, 4095, 2048, chance.randint(1, 4095)))]
     return row
+
+
+FAR = 10 ** 18
+FULL_CARD = [number for column in range(80) for number in (column, 4095)]
+FULL_SENDING = [number for hub in range(256) for number in (hub, 4095)]
+
+# What is neither a card nor what the machine sends.
+NEITHER = (
+    [0], [5], [1], [-1], [FAR], [0, 1, 1], [0, 1, 2, 3, 4], [0, 1, 1, 1, 2],
+    [-1, 1], [-2, 1], [256, 1], [257, 1], [FAR, 1], [-FAR, 1], [0, 1, FAR, 1], [-1, 1, 0, 1],
+    [3, 1, 3, 1], [3, 1, 3, 2], [0, 1, 0, 1], [4, 1, 3, 1], [79, 1, 0, 1], [0, 1, 2, 1, 1, 1], [0, 1, 2, 1, 2, 1],
+    [1, 1, 0, 1], [79, 1, 79, 1],
+    [0, 0], [0, 4096], [0, 4097], [0, -1], [0, -4095], [0, FAR], [0, -FAR], [0, 8191],
+    [0, 0, 1, 1], [0, 1, 1, 0], [0, 1, 1, 4096], [0, 4096, 1, 1], [0, 1, 79, -1], [0, 1, 79, FAR],
+    [FAR, FAR], [-FAR, -FAR], [0, 0, 0, 0],
+)
+# What the machine may send, but no card has.
+NO_CARD = ([80, 1], [81, 1], [255, 4095], [0, 1, 80, 1], [79, 1, 80, 1])
+# Cards, and what the machine may send.
+EITHER = (
+    [], [0, 1], [0, 4095], [79, 1], [79, 4095], [0, 1, 79, 4095], [0, 1, 1, 1], [1, 5, 2, 4], [78, 1, 79, 1],
+    FULL_CARD,
+)
+
+
+def long_way():
+    """256 wires through 255 boxes, each of which sends row 0 to the next."""
+    boxes = []
+    for k in range(64):
+        boxes += [(f"split {k}", f"upper {k}"), (f"look {k}", f"hole {k} 0")]
+        boxes += [(f"plain {k}", f"chosen {k}"), (f"one {k}", f"both {k}")]
+    boxes.pop()
+    senders = ["read 0"] + [sends for takes, sends in boxes]
+    takers = [takes for takes, sends in boxes] + ["to 0"]
+    return [f"{sender} > {taker}" for sender, taker in zip(senders, takers)]
+
+
+def turning_way():
+    """Each box sends the figure 0 if the one before it sends nothing, else nothing; each is told."""
+    wires = ["read 0 > by 0"]
+    for k in range(64):
+        wires += [f"send 48 > plain {k}", f"chosen {k} > to {k}"]
+        if k < 63:
+            wires.append(f"chosen {k} > by {k + 1}")
+    return wires
+
+
+def doubling_way():
+    """Twice as many ways behind each box as before it."""
+    wires = ["read 0 > one 0", "read 1 > two 0", "both 63 > to 0"]
+    for k in range(63):
+        wires += [f"both {k} > one {k + 1}", f"both {k} > two {k + 1}"]
+    return wires
+
+
+def gathering_way():
+    """Each box adds one more of the first twelve columns to what came before it."""
+    wires = [f"read {k} > one {k}" for k in range(12)]
+    wires += [f"both {k} > two {k + 1}" for k in range(11)] + [f"both {k} > to {k}" for k in range(12)]
+    return wires
+
+
+def orders(wires):
+    middle = len(wires) // 2
+    given = [wires, wires[::-1], wires[::2] + wires[1::2], wires[1::2] + wires[::2], wires[middle:] + wires[:middle]]
+    given += [wires[:middle][::-1] + wires[middle:], sorted(wires), sorted(wires, reverse=True)]
+    for seed in range(10):
+        other = list(wires)
+        random.Random(seed).shuffle(other)
+        given.append(other)
+    return given

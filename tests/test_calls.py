@@ -10,7 +10,7 @@ import unittest
 from unittest import mock
 
 from hubpanels import panels
-from hubpanels.panels import judge, run
+from hubpanels.panels import judge, run, state
 from tests.helper import as_text, panel
 
 FULL_TEXT = panel(*[f"read 0 > to {n}" for n in range(256)])
@@ -42,10 +42,20 @@ CALLS = (
     (run, (BOXES_TEXT[:-1], CARD, SENDING), [-6, 1, 5, 14]),
     (run, ([10] * 65536, LONG_ROW, LONG_ROW), [-1]),
     (run, (FULL_TEXT, CARD, SENDING), [0] + [number for n in range(256) for number in (n, 1)]),
+    (state, (0, 9, BOXES_TEXT, CARD, SENDING), [7]),
+    (state, (3, 3, BOXES_TEXT, CARD, SENDING), [2]),
+    (state, (3, 3, BOXES_TEXT, [], SENDING), [0]),
+    (state, (7, 63, BOXES_TEXT, CARD, SENDING), [0]),
+    (state, (7, 64, BOXES_TEXT, CARD, SENDING), [-4]),
+    (state, (10 ** 18, -10 ** 18, BOXES_TEXT, CARD, SENDING), [-4]),
+    (state, (7, 64, BOXES_TEXT, CARD[1:], SENDING), [-8]),
+    (state, (7, 64, BOXES_TEXT[1:], LONG_ROW, LONG_ROW), [-6, 1, 0, 0]),
+    (state, (7, 64, [0] * 65536, LONG_ROW, LONG_ROW), [-1]),
 )
 ARGUMENTS = (
     (judge, ["text"]),
     (run, ["text", "card", "sending"]),
+    (state, ["into", "k", "text", "card", "sending"]),
 )
 
 
@@ -158,14 +168,16 @@ class Depth(unittest.TestCase):
         )
         self.assertEqual(answers, [[255], [-6, 4, 255, 0], [-6, 1, 0, 0]])
 
-    def test_run(self):
+    def test_run_and_state(self):
         text = panel("hole 62 0 > to 0", *[wire for wire in self.ladder if "look 63" not in wire], "read 0 > one 0")
         answers = self.with_few_calls(
             lambda: judge(text),
             lambda: run(text, [0, 4095], []),
             lambda: run(text, LONG_ROW, LONG_ROW),
+            lambda: state(2, 62, text, [0, 4095], []),
+            lambda: state(2, 62, text, LONG_ROW, LONG_ROW),
         )
-        self.assertEqual(answers, [[256], [0, 0, 1], [-8]])
+        self.assertEqual(answers, [[256], [0, 0, 1], [-8], [1], [-8]])
 
 
 if __name__ == "__main__":

@@ -1,58 +1,9 @@
 """Boxes behind boxes, many in a row, with their wires in many orders; P1: one state in whatever order they stand."""
 
-import random
 import unittest
 
 from hubpanels.panels import judge, run
-from tests.helper import panel
-
-
-def long_way():
-    """256 wires through 255 boxes, each of which sends row 0 to the next."""
-    boxes = []
-    for k in range(64):
-        boxes += [(f"split {k}", f"upper {k}"), (f"look {k}", f"hole {k} 0")]
-        boxes += [(f"plain {k}", f"chosen {k}"), (f"one {k}", f"both {k}")]
-    boxes.pop()
-    senders = ["read 0"] + [sends for takes, sends in boxes]
-    takers = [takes for takes, sends in boxes] + ["to 0"]
-    return [f"{sender} > {taker}" for sender, taker in zip(senders, takers)]
-
-
-def turning_way():
-    """Each box sends the figure 0 if the one before it sends nothing, else nothing; each is told."""
-    wires = ["read 0 > by 0"]
-    for k in range(64):
-        wires += [f"send 48 > plain {k}", f"chosen {k} > to {k}"]
-        if k < 63:
-            wires.append(f"chosen {k} > by {k + 1}")
-    return wires
-
-
-def doubling_way():
-    """Twice as many ways behind each box as before it."""
-    wires = ["read 0 > one 0", "read 1 > two 0", "both 63 > to 0"]
-    for k in range(63):
-        wires += [f"both {k} > one {k + 1}", f"both {k} > two {k + 1}"]
-    return wires
-
-
-def gathering_way():
-    """Each box adds one more of the first twelve columns to what came before it."""
-    wires = [f"read {k} > one {k}" for k in range(12)]
-    wires += [f"both {k} > two {k + 1}" for k in range(11)] + [f"both {k} > to {k}" for k in range(12)]
-    return wires
-
-
-def orders(wires):
-    middle = len(wires) // 2
-    given = [wires, wires[::-1], wires[::2] + wires[1::2], wires[1::2] + wires[::2], wires[middle:] + wires[:middle]]
-    given += [wires[:middle][::-1] + wires[middle:], sorted(wires), sorted(wires, reverse=True)]
-    for seed in range(20):
-        other = list(wires)
-        random.Random(seed).shuffle(other)
-        given.append(other)
-    return given
+from tests.helper import doubling_way, gathering_way, long_way, orders, panel, turning_way
 
 
 class LongWays(unittest.TestCase):

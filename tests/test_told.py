@@ -3,30 +3,9 @@
 import unittest
 
 from hubpanels.panels import run
-from tests.helper import panel
+from tests.helper import EITHER, FAR, FULL_CARD, FULL_SENDING, NEITHER, NO_CARD, panel
 
-FAR = 10 ** 18
 TEXT = panel("read 0 > to 0", "from 0 > to 1", "send 1 > to 2")
-FULL_CARD = [number for column in range(80) for number in (column, 4095)]
-FULL_SENDING = [number for hub in range(256) for number in (hub, 4095)]
-
-# What is neither a card nor what the machine sends.
-NEITHER = (
-    [0], [5], [1], [-1], [FAR], [0, 1, 1], [0, 1, 2, 3, 4], [0, 1, 1, 1, 2],
-    [-1, 1], [-2, 1], [256, 1], [257, 1], [FAR, 1], [-FAR, 1], [0, 1, FAR, 1], [-1, 1, 0, 1],
-    [3, 1, 3, 1], [3, 1, 3, 2], [0, 1, 0, 1], [4, 1, 3, 1], [79, 1, 0, 1], [0, 1, 2, 1, 1, 1], [0, 1, 2, 1, 2, 1],
-    [1, 1, 0, 1], [79, 1, 79, 1],
-    [0, 0], [0, 4096], [0, 4097], [0, -1], [0, -4095], [0, FAR], [0, -FAR], [0, 8191],
-    [0, 0, 1, 1], [0, 1, 1, 0], [0, 1, 1, 4096], [0, 4096, 1, 1], [0, 1, 79, -1], [0, 1, 79, FAR],
-    [FAR, FAR], [-FAR, -FAR], [0, 0, 0, 0],
-)
-# What the machine may send, but no card has.
-NO_CARD = ([80, 1], [81, 1], [255, 4095], [0, 1, 80, 1], [79, 1, 80, 1])
-# Cards, and what the machine may send.
-EITHER = (
-    [], [0, 1], [0, 4095], [79, 1], [79, 4095], [0, 1, 79, 4095], [0, 1, 1, 1], [1, 5, 2, 4], [78, 1, 79, 1],
-    FULL_CARD,
-)
 
 
 class Told(unittest.TestCase):
