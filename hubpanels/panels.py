@@ -6,6 +6,7 @@ LINE_END = 10
 
 LAST_COLUMN = 79
 LAST_HUB = 255
+FIRST_FROM = 80
 
 NOTHING = 0
 ALL_ROWS = 4095
@@ -310,6 +311,27 @@ def fill_hubs(wires, outside):
     return inside
 
 
+# The ways back to where it all comes from may double at each box: so no hub is gone back from twice.
+def find_needs(wires, start):
+    senders = senders_by_taker(wires)
+    needed = {}
+    seen = {start: True}
+    waiting = [start]
+    while waiting:
+        sender = senders.get(waiting.pop())
+        if sender is None:
+            continue
+        if sender[0] == "read":
+            needed[sender[1]] = True
+        if sender[0] == "from":
+            needed[FIRST_FROM + sender[1]] = True
+        for hub in hubs_behind(sender):
+            if hub not in seen:
+                seen[hub] = True
+                waiting.append(hub)
+    return sorted(needed)
+
+
 # To be asked only of what is not refused.
 def find_state(text, card, sending):
     outside = holes_by_hub("read", card)
@@ -347,3 +369,12 @@ def state(into, k, text, card, sending):
     if not 0 <= k <= kind[1][0]:
         return [NO_SUCH_HUB]
     return [find_state(text, card, sending).get((kind[0], k), NOTHING)]
+
+
+def needs(n, text):
+    refusal = find_refusal(text)
+    if refusal:
+        return refusal
+    if not 0 <= n <= LAST_HUB:
+        return [NO_SUCH_HUB]
+    return [0] + find_needs(read_wires(part_lines(text)), ("to", n))

@@ -193,12 +193,36 @@ def expected_run(text, card, sending):
     return answer
 
 
+def expected_needs(n, text):
+    """What the document asks needs to answer."""
+    judged = expected(text)
+    if judged[0] < 0:
+        return judged
+    if n not in range(256):
+        return [-4]
+    wires = wires_of(text)
+    hangs_on = {}
+    while True:
+        after = {}
+        for sender, taker in wires:
+            word, k = sender.split(" ")[:2]
+            if word in ("read", "from"):
+                after[taker] = {int(k) if word == "read" else 80 + int(k)}
+            else:
+                takes = [takes for sends, takes in BOXES if word in sends]
+                hubs = [f"{each} {k}" for words in takes for each in words]
+                after[taker] = set().union(*[hangs_on.get(hub, set()) for hub in hubs])
+        if after == hangs_on:
+            return [0] + sorted(hangs_on.get(f"to {n}", ()))
+        hangs_on = after
+
+
 def some_outside(chance):
     word = chance.choice(("read", "read", "from", "send"))
     return f"{word} {chance.randint(0, LAST_NUMBERS[word][0])}"
 
 
-def some_panel(chance, numbers):
+def some_panel(chance, numbers, outside=0.4):
     """The lines of a sound panel, in any order: some boxes, each of which gets from those made before it."""
     boxes = [(box, k) for box in range(len(BOXES)) for k in chance.sample(range(64), numbers)]
     chance.shuffle(boxes)
@@ -206,7 +230,7 @@ def some_panel(chance, numbers):
     wires = []
 
     def some_sender():
-        if not senders or chance.random() < 0.4:
+        if not senders or chance.random() < outside:
             return some_outside(chance)
         return chance.choice(senders[-12:])
 

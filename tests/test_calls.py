@@ -10,7 +10,7 @@ import unittest
 from unittest import mock
 
 from hubpanels import panels
-from hubpanels.panels import judge, run, state
+from hubpanels.panels import judge, needs, run, state
 from tests.helper import as_text, panel
 
 FULL_TEXT = panel(*[f"read 0 > to {n}" for n in range(256)])
@@ -51,11 +51,19 @@ CALLS = (
     (state, (7, 64, BOXES_TEXT, CARD[1:], SENDING), [-8]),
     (state, (7, 64, BOXES_TEXT[1:], LONG_ROW, LONG_ROW), [-6, 1, 0, 0]),
     (state, (7, 64, [0] * 65536, LONG_ROW, LONG_ROW), [-1]),
+    (needs, (9, BOXES_TEXT), [0, 4, 87, 88]),
+    (needs, (8, BOXES_TEXT), [0]),
+    (needs, (255, FULL_TEXT), [0, 0]),
+    (needs, (256, BOXES_TEXT), [-4]),
+    (needs, (-10 ** 18, []), [-4]),
+    (needs, (256, BOXES_TEXT[:-1]), [-6, 1, 5, 14]),
+    (needs, (10 ** 18, [10] * 65536), [-1]),
 )
 ARGUMENTS = (
     (judge, ["text"]),
     (run, ["text", "card", "sending"]),
     (state, ["into", "k", "text", "card", "sending"]),
+    (needs, ["n", "text"]),
 )
 
 
@@ -168,7 +176,7 @@ class Depth(unittest.TestCase):
         )
         self.assertEqual(answers, [[255], [-6, 4, 255, 0], [-6, 1, 0, 0]])
 
-    def test_run_and_state(self):
+    def test_run_state_and_needs(self):
         text = panel("hole 62 0 > to 0", *[wire for wire in self.ladder if "look 63" not in wire], "read 0 > one 0")
         answers = self.with_few_calls(
             lambda: judge(text),
@@ -176,8 +184,9 @@ class Depth(unittest.TestCase):
             lambda: run(text, LONG_ROW, LONG_ROW),
             lambda: state(2, 62, text, [0, 4095], []),
             lambda: state(2, 62, text, LONG_ROW, LONG_ROW),
+            lambda: needs(0, text),
         )
-        self.assertEqual(answers, [[256], [0, 0, 1], [-8], [1], [-8]])
+        self.assertEqual(answers, [[256], [0, 0, 1], [-8], [1], [-8], [0, 0]])
 
 
 if __name__ == "__main__":
